@@ -1,0 +1,1 @@
+"""Benchrota: hands with ranks at one bench, and the tools that they share."""
