@@ -1,8 +1,9 @@
 """The package's files keep to the small part of Python that the program is written in.
 
-Only what can be seen from one file's text is looked at here: what stands in the folder, the signs, the size,
-the imports, the kinds of statement and expression, and Python's own names. That also keeps out clock, chance
-and files (point 1), as none of them can be had without an import or a built-in name that is not on the list.
+What is looked at here: what stands in the folder, the signs, the size, the imports, the kinds of statement and
+expression, where `is` stands, what is walked at once, which names are given, and Python's own names. That also keeps
+out clock, chance and files (point 1), as none of them can be had without an import or a built-in name that is not on
+the list.
 """
 
 import ast
@@ -41,6 +42,8 @@ KINDS = (
     ast.expr_context, ast.operator, ast.unaryop, ast.boolop, ast.cmpop,
 )
 PLAIN_NAME = re.compile(r"[A-Za-z][A-Za-z0-9_]*\Z")
+WALKED_AT_ONCE = {"zip", "enumerate", "reversed", "range", "items", "keys", "values"}
+WALKING = {"list", "tuple", "dict", "sorted", "sum", "any", "all", "enumerate", "zip", "min", "max", "join"}
 
 
 def faults_of_signs(text):
@@ -97,6 +100,12 @@ def faults_of_node(node):
         return ["except without a name"]
     if isinstance(node, ast.ListComp) and (len(node.generators) > 1 or len(node.generators[0].ifs) > 1):
         return ["a comprehension with more than one for or if"]
+    if isinstance(node, ast.Compare) and isinstance(node.ops[0], (ast.Is, ast.IsNot)):
+        beside = node.comparators[0]
+        if not (isinstance(beside, ast.Constant) and (beside.value is None or isinstance(beside.value, bool))):
+            return ["is beside another value than None, True and False"]
+    if isinstance(node, ast.Constant) and isinstance(node.value, str) and "%" in node.value:
+        return ["a percent sign within a text"]
     if isinstance(node, ast.Constant) and not (node.value is None or isinstance(node.value, (bool, int, str))):
         return [f"value {node.value!r}"]
     if isinstance(node, ast.Name) and node.id in dir(builtins) and node.id not in OWN_NAMES:
@@ -107,18 +116,67 @@ def faults_of_node(node):
     return []
 
 
-def faults_of(text):
-    """What in a file's text is outside the form, as a list of texts."""
+def name_called(node):
+    called = node.func
+    return called.id if isinstance(called, ast.Name) else getattr(called, "attr", None)
+
+
+def faults_of_walks(tree):
+    walked = []
+    for node in ast.walk(tree):
+        if isinstance(node, (ast.For, ast.comprehension)):
+            walked.append(node.iter)
+        elif isinstance(node, ast.Call) and name_called(node) in WALKING:
+            walked += node.args if name_called(node) == "zip" else node.args[:1]
+    calls = [node for node in ast.walk(tree) if isinstance(node, ast.Call) and name_called(node) in WALKED_AT_ONCE]
+    return [f"{name_called(node)} is not walked at once" for node in calls if node not in walked]
+
+
+def faults_of_names(tree):
+    taken = {node.name for node in tree.body if isinstance(node, ast.ClassDef)}
+    taken |= {alias.name for node in tree.body if isinstance(node, ast.ImportFrom) for alias in node.names}
+    names = [node.arg for node in ast.walk(tree) if isinstance(node, ast.arg)]
+    names += [node.id for node in ast.walk(tree) if isinstance(node, ast.Name) and isinstance(node.ctx, ast.Store)]
+    faults = [f"local name {name} of a class or an import" for name in names if name in taken]
+    methods = {
+        part.name for node in ast.walk(tree) if isinstance(node, ast.ClassDef) for part in node.body
+        if isinstance(part, ast.FunctionDef)
+    }
+    values = {
+        node.attr for node in ast.walk(tree) if isinstance(node, ast.Attribute) and isinstance(node.ctx, ast.Store)
+    }
+    faults += [f"{name} is a method and a value" for name in sorted(methods & values)]
+    return faults
+
+
+def faults_of(text, others=()):
+    """What in a file's text is outside the form, as a list of texts; `others` are the texts of the files beside it."""
     tree = ast.parse(text)
-    faults = faults_of_signs(text)
+    faults = faults_of_signs(text) + faults_of_walks(tree) + faults_of_names(tree)
+    attributes = METHODS | TWO_UNDERSCORES | own_attributes(tree)
+    for other in others:
+        attributes |= own_attributes(ast.parse(other))
     for node in ast.walk(tree):
         faults += faults_of_node(node)
-        if isinstance(node, ast.Attribute) and node.attr not in METHODS | own_attributes(tree) | TWO_UNDERSCORES:
+        if isinstance(node, ast.Attribute) and node.attr not in attributes:
             faults.append(f"attribute {node.attr}")
     for name in bound_names(tree):
         if name not in TWO_UNDERSCORES and (not PLAIN_NAME.match(name) or name in dir(builtins)):
             faults.append(f"bound name {name}")
     return faults
+
+
+def drawn_from(texts):
+    """For each file's text the names that it draws, as pairs of a file and a name."""
+    drawn = {}
+    for name, text in texts.items():
+        rows = [node for node in ast.walk(ast.parse(text)) if isinstance(node, ast.ImportFrom)]
+        drawn[name] = [(row.module.rpartition(".")[2], alias.name) for row in rows for alias in row.names]
+    return drawn
+
+
+def defined_in(text):
+    return {node.name for node in ast.parse(text).body if isinstance(node, (ast.FunctionDef, ast.ClassDef))}
 
 
 class ThePackage(unittest.TestCase):
@@ -128,10 +186,30 @@ class ThePackage(unittest.TestCase):
         for name in names:
             self.assertRegex(name, r"\A([a-z][a-z0-9_]*|__init__|__main__)\.py\Z")
 
+    def texts(self):
+        return {path.stem: path.read_bytes().decode("utf-8") for path in sorted(PACKAGE.glob("*.py"))}
+
     def test_each_file_keeps_to_the_form(self):
-        for path in sorted(PACKAGE.glob("*.py")):
-            with self.subTest(file=path.name):
-                self.assertEqual(faults_of(path.read_bytes().decode("utf-8")), [])
+        texts = self.texts()
+        for name, text in texts.items():
+            with self.subTest(file=name):
+                self.assertEqual(faults_of(text, texts.values()), [])
+
+    def test_each_name_is_drawn_from_the_file_that_defines_it(self):
+        texts = self.texts()
+        for name, pairs in drawn_from(texts).items():
+            for file, drawn in pairs:
+                self.assertIn(drawn, defined_in(texts[file]), name)
+
+    def test_no_two_files_draw_from_one_another(self):
+        left = {name: {file for file, drawn in pairs} for name, pairs in drawn_from(self.texts()).items()}
+        while left:
+            free = [name for name in left if not left[name] & set(left)]
+            self.assertNotEqual(free, [], left)
+            left = {name: left[name] for name in left if name not in free}
+
+    def test_every_file_of_the_interface_is_there(self):
+        self.assertLessEqual({"__init__", "errors", "hands", "chains", "day"}, set(self.texts()))
 
 
 class TheLookItself(unittest.TestCase):
@@ -141,6 +219,8 @@ class TheLookItself(unittest.TestCase):
             "from benchrota.errors import NoStep\n\n\ndef refuse():\n    raise NoStep(\"why\")\n",
             "class Held:\n    def __init__(self, tool):\n        self.tool = tool\n\n    def told(self):\n"
             "        return self.tool\n",
+            "def f(d):\n    for k, v in d.items():\n        return list(d.values()) if v is None else [k for k in d]\n",
+            "def f(xs):\n    return sorted([x for x in reversed(xs)]) + list(range(len(xs)))\n",
         ):
             self.assertEqual(faults_of(text), [], text)
 
@@ -157,6 +237,10 @@ class TheLookItself(unittest.TestCase):
             "def f(id):\n    return id\n", "# of another type\n", "# caf\u00e9\n", "def f():\n\treturn 1\n",
             "a = 1  # " + "x" * 120 + "\n", "def f(x):\n" + "    x = x + 1\n" * 41, "a = 1\n" * 401,
             "def f(x):\n    try:\n        x()\n    except:\n        pass\n",
+            "def f(x, y):\n    return x is y\n", "def f(x):\n    return x is not 1\n",
+            "def f(d):\n    return 1 in d.values()\n", "def f(n):\n    r = range(n)\n    return r\n", "a = 'x%d'\n",
+            "from benchrota.errors import NoStep\n\n\ndef f(NoStep):\n    return NoStep\n",
+            "class A:\n    def __init__(self):\n        self.told = 1\n\n    def told(self):\n        return 1\n",
         ):
             self.assertNotEqual(faults_of(text), [], text)
 
